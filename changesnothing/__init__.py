@@ -1,0 +1,1 @@
+"""A house that keeps its promises while it is asked for deeds."""
