@@ -23,6 +23,8 @@ class Rules:
     def __init__(self, deeds, events):
         self.deeds = deeds
         self.events = events
+        # By how many steps aims can be come to, as far as it was asked: plans ask it again and again.
+        self.known = {}
 
     def waiting(self):
         return len(self.deeds)
@@ -58,6 +60,12 @@ class Rules:
 
     def fewest_steps(self, state, facts, wanted):
         """By how many steps the aim can be come to from state, or None if it can't."""
+        asked = (state, facts, wanted)
+        if asked not in self.known:
+            self.known[asked] = self.count_steps(state, facts, wanted)
+        return self.known[asked]
+
+    def count_steps(self, state, facts, wanted):
         seen = {state: True}
         front = [state]
         steps = 0
@@ -71,6 +79,11 @@ class Rules:
 
 def is_within(part, whole):
     return part & whole == part
+
+
+def is_aim(aimed, wanted, facts):
+    """Whether these two numbers tell an aim over the set of all facts."""
+    return is_within(aimed, facts) and is_within(wanted, aimed)
 
 
 def is_rule(looks, needs, turns, makes, facts):

@@ -1,5 +1,7 @@
 """Calls by their names, for the tests."""
 
+import unittest
+
 from changesnothing.calls import perform
 from changesnothing.house import answers
 from changesnothing.model import House
@@ -40,23 +42,33 @@ def last(*calls):
     return ask(*calls)[-1]
 
 
-class Promised:
-    """A house that is begun, to which promises can be put in directly."""
+def counter(size):
+    """The calls that begin a house which counts up by one with each deed that can be done, one deed for each fact."""
+    rows = [f"begin {size}"]
+    for fact in range(size):
+        below = (1 << fact) - 1
+        turned = below | 1 << fact
+        rows.append(f"deed {turned} {below} {turned} {1 << fact}")
+    return rows
+
+
+class Home:
+    """A house that is kept, so that one can look at it between the calls."""
 
     def __init__(self, *calls):
         self.house = House()
+        self.does(*calls)
+
+    def does(self, *calls):
         for call in calls:
             answer = self.call(call)
             if answer[0] < 0:
                 raise ValueError(f"{call} is answered {answer}")
+        return self
 
     def call(self, text):
         numbers = flat([text])
         return perform(self.house, numbers[0], numbers[1:])
-
-    def promise(self, *promises):
-        self.house.promises = list(promises)
-        return self
 
     def stands(self):
         house = self.house
@@ -66,3 +78,17 @@ class Promised:
         ]
         counts = (len(house.rules.deeds), len(house.rules.events))
         return house.facts, rules, counts, list(house.promises), house.state, house.shadow, list(house.log)
+
+
+class HomeCase(unittest.TestCase):
+    def answered(self, home, *pairs):
+        """Calls and what is answered of them, in turn."""
+        for call, answer in pairs:
+            self.assertEqual(home.call(call), answer, call)
+
+    def unchanged(self, home, *pairs):
+        """Likewise, and nothing is changed by any of them."""
+        before = home.stands()
+        for call, answer in pairs:
+            self.assertEqual(home.call(call), answer, call)
+            self.assertEqual(home.stands(), before, call)

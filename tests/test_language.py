@@ -112,6 +112,41 @@ class Language(unittest.TestCase):
                 if isinstance(node, ast.Call) and isinstance(node.func, ast.Attribute):
                     self.assertIn(node.func.attr, own.union(METHODS), (path, node.lineno))
 
+    def test_no_name_is_a_method_and_a_value(self):
+        methods = set()
+        kept = set()
+        for path, text in self.each():
+            for node in ast.walk(ast.parse(text)):
+                if isinstance(node, ast.ClassDef):
+                    methods.update(part.name for part in node.body if isinstance(part, ast.FunctionDef))
+                if isinstance(node, ast.Attribute) and isinstance(node.ctx, ast.Store):
+                    kept.add(node.attr)
+        self.assertEqual(methods & kept, set())
+
+    def test_locals_are_not_called_like_imports_or_classes(self):
+        for path, text in self.each():
+            tree = ast.parse(text)
+            taken = {part.name for part in tree.body if isinstance(part, ast.ClassDef)}
+            for part in tree.body:
+                if isinstance(part, ast.ImportFrom):
+                    taken.update(name.name for name in part.names)
+            for node in ast.walk(tree):
+                if isinstance(node, ast.arg):
+                    self.assertNotIn(node.arg, taken, path)
+                if isinstance(node, ast.Name) and isinstance(node.ctx, ast.Store):
+                    self.assertNotIn(node.id, taken, path)
+
+    def test_imports_go_one_way(self):
+        drawn = {}
+        for path, text in self.each():
+            drawn[path.stem] = [part.module.split(".")[1] for part in ast.parse(text).body
+                                if isinstance(part, ast.ImportFrom)]
+        while drawn:
+            free = [name for name, others in drawn.items() if not set(others) & set(drawn)]
+            self.assertNotEqual(free, [], drawn)
+            for name in free:
+                drawn.pop(name)
+
     def test_own_names_are_no_methods_of_pythons(self):
         taken = set(dir(str)) | set(dir(int)) | set(dir(list)) | set(dir(dict)) | set(dir(set)) | set(dir(bytes))
         for path, text in self.each():
